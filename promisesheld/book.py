@@ -1,4 +1,6 @@
-"""The one object that all calls speak of: its acts, states, duties and links."""
+"""The one object that all calls speak of: its acts, states, duties and links, and the changes made to these."""
+
+from promisesheld.terms import MOST_BACK
 
 
 class Duty:
@@ -14,7 +16,11 @@ class Duty:
 
 
 class Book:
-    """How many acts and states there are, the duties in their order, and the links (act, the act it needs)."""
+    """How many acts and states there are, the duties in their order, and the links (act, the act it needs).
+
+    A page is the duties and the links as they stood at one time. Each change puts new lists in the place of the
+    old ones and changes none in itself, so that a page once kept stays as it was.
+    """
 
     def __init__(self):
         self.begin(0, 0)
@@ -24,6 +30,31 @@ class Book:
         self.states = states
         self.duties = []
         self.links = []
+        self.pages_before = []
+        self.pages_behind = []
+
+    def page(self):
+        return (self.duties, self.links)
+
+    def turn_to(self, page):
+        self.duties = page[0]
+        self.links = page[1]
+
+    def change(self, duties, links):
+        before = self.pages_before + [self.page()]
+        self.pages_before = before[-MOST_BACK:]
+        self.pages_behind = []
+        self.turn_to((duties, links))
+
+    def take_back(self):
+        self.pages_behind = self.pages_behind + [self.page()]
+        self.turn_to(self.pages_before[-1])
+        self.pages_before = self.pages_before[:-1]
+
+    def do_again(self):
+        self.pages_before = self.pages_before + [self.page()]
+        self.turn_to(self.pages_behind[-1])
+        self.pages_behind = self.pages_behind[:-1]
 
     def has_act(self, act):
         return act < self.acts
@@ -54,3 +85,7 @@ def stands(duty, duties):
 
 def standing(duties):
     return [duty for duty in duties if stands(duty, duties)]
+
+
+def standing_places(duties):
+    return [place for place, duty in enumerate(duties) if stands(duty, duties)]

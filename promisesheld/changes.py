@@ -1,7 +1,4 @@
-"""The calls that begin the book anew or change it. Each gives back what it answers, as a list.
-
-A change puts a new list in the place of the old one, so a list once taken from the book stays as it was.
-"""
+"""The calls that begin the book anew, change it, or take changes back. Each gives back what it answers, as a list."""
 
 from promisesheld.book import Duty
 from promisesheld.terms import (
@@ -25,14 +22,14 @@ def ck_duty(book, i, j, a, x, w, d):
     place = len(book.duties)
     if place == MOST_DUTIES:
         return [FULL]
-    book.duties = book.duties + [Duty(i, j, a, x, w, d)]
+    book.change(book.duties + [Duty(i, j, a, x, w, d)], book.links)
     return [place]
 
 
 def ck_drop(book, k):
     if not book.has_duty(k):
         return [NONE_THERE]
-    book.duties = book.duties[:k] + book.duties[k + 1:]
+    book.change(book.duties[:k] + book.duties[k + 1:], book.links)
     return [len(book.duties)]
 
 
@@ -45,7 +42,7 @@ def ck_needs(book, a, b):
         return [THERE_ALREADY]
     if len(book.links) == MOST_LINKS:
         return [FULL]
-    book.links = book.links + [(a, b)]
+    book.change(book.duties, book.links + [(a, b)])
     return [len(book.links)]
 
 
@@ -54,5 +51,19 @@ def ck_free(book, a, b):
         return [NONE_THERE]
     if (a, b) not in book.links:
         return [NO_SUCH]
-    book.links = [link for link in book.links if link != (a, b)]
+    book.change(book.duties, [link for link in book.links if link != (a, b)])
     return [len(book.links)]
+
+
+def ck_back(book):
+    if not book.pages_before:
+        return [NONE_THERE]
+    book.take_back()
+    return [len(book.pages_before)]
+
+
+def ck_again(book):
+    if not book.pages_behind:
+        return [NONE_THERE]
+    book.do_again()
+    return [len(book.pages_behind)]

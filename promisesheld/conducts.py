@@ -24,18 +24,30 @@ def conducts_that_may_be(book):
     return [conduct for conduct in range(1 << book.acts) if may_be(conduct, book.links)]
 
 
+def keeps(conduct, duty):
+    return does(conduct, duty.act) == duty.owed
+
+
 def broken_by(conduct, duties):
-    return [duty for duty in duties if does(conduct, duty.act) != duty.owed]
+    return [duty for duty in duties if not keeps(conduct, duty)]
 
 
 def weight_of(duties):
     return sum([duty.weight for duty in duties])
 
 
-def best_conducts(book):
-    """As their numbers rise; never empty, since doing nothing may always be."""
+def weighed_conducts(book):
+    """Each conduct that may be, with how much it breaks; never empty, since doing nothing may always be."""
     duties = standing(book.duties)
-    conducts = conducts_that_may_be(book)
-    weights = [weight_of(broken_by(conduct, duties)) for conduct in conducts]
-    least = min(weights)
-    return [conduct for conduct, weight in zip(conducts, weights) if weight == least]
+    return [(conduct, weight_of(broken_by(conduct, duties))) for conduct in conducts_that_may_be(book)]
+
+
+def least_broken(weighed):
+    return min([weight for conduct, weight in weighed])
+
+
+def best_conducts(book):
+    """As their numbers rise."""
+    weighed = weighed_conducts(book)
+    least = least_broken(weighed)
+    return [conduct for conduct, weight in weighed if weight == least]

@@ -1,8 +1,12 @@
 """A line of calls on one new object, told as whole numbers, and what they answer."""
 
 from promisesheld.book import Book
-from promisesheld.changes import ck_drop, ck_duty, ck_free, ck_needs, ck_start
-from promisesheld.questions import ck_best, ck_breaks, ck_may, ck_most, ck_nth, ck_told, ck_ways
+from promisesheld.changes import ck_again, ck_back, ck_drop, ck_duty, ck_free, ck_needs, ck_start
+from promisesheld.clashes import ck_clash, ck_clashes
+from promisesheld.costs import ck_can, ck_cost, ck_relief, ck_waive
+from promisesheld.questions import (
+    ck_best, ck_breaks, ck_may, ck_most, ck_nth, ck_state, ck_sure, ck_told, ck_ways, ck_who,
+)
 
 START = 0
 DUTY = 1
@@ -15,9 +19,20 @@ BREAKS = 7
 BEST = 8
 MOST = 9
 WAYS = 10
+NTH = 11
+SURE = 12
+WHO = 13
+CAN = 14
+COST = 15
+CLASH = 16
+CLASHES = 17
+WAIVE = 18
+RELIEF = 19
+BACK = 20
+AGAIN = 21
 
-# How many whole numbers stand behind each call's own number, by that number; the last is ck_nth.
-TAKES = (2, 6, 1, 1, 2, 2, 1, 1, 0, 0, 0, 1)
+# How many whole numbers stand behind each call's own number, by that number; the last is ck_state.
+TAKES = (2, 6, 1, 1, 2, 2, 1, 1, 0, 0, 0, 1, 1, 1, 1, 1, 2, 0, 0, 1, 0, 0, 0)
 
 
 def answer_change(book, call, given):
@@ -29,7 +44,25 @@ def answer_change(book, call, given):
         return ck_drop(book, given[0])
     if call == NEEDS:
         return ck_needs(book, given[0], given[1])
-    return ck_free(book, given[0], given[1])
+    if call == FREE:
+        return ck_free(book, given[0], given[1])
+    if call == BACK:
+        return ck_back(book)
+    return ck_again(book)
+
+
+def answer_cost(book, call, given):
+    if call == CAN:
+        return ck_can(book, given[0])
+    if call == COST:
+        return ck_cost(book, given[0])
+    if call == CLASH:
+        return ck_clash(book, given[0], given[1])
+    if call == CLASHES:
+        return ck_clashes(book)
+    if call == WAIVE:
+        return ck_waive(book)
+    return ck_relief(book, given[0])
 
 
 def answer_question(book, call, given):
@@ -45,13 +78,21 @@ def answer_question(book, call, given):
         return ck_most(book)
     if call == WAYS:
         return ck_ways(book)
+    if call == NTH:
+        return ck_nth(book, given[0])
+    if call == SURE:
+        return ck_sure(book, given[0])
+    if call == WHO:
+        return ck_who(book, given[0])
     # TAKES lets no other call come this far.
-    return ck_nth(book, given[0])
+    return ck_state(book)
 
 
 def answer_call(book, call, given):
-    if call in (START, DUTY, DROP, NEEDS, FREE):
+    if call in (START, DUTY, DROP, NEEDS, FREE, BACK, AGAIN):
         return answer_change(book, call, given)
+    if call in (CAN, COST, CLASH, CLASHES, WAIVE, RELIEF):
+        return answer_cost(book, call, given)
     return answer_question(book, call, given)
 
 

@@ -1,8 +1,8 @@
-"""The calls that ask of the book and change nothing. Each gives back the number it answers, then its out."""
+"""The calls that ask what there is and which conducts are best. Each gives back its number, then its out."""
 
 from promisesheld.book import standing, stands
 from promisesheld.conducts import (
-    best_conducts, broken_by, conducts_that_may_be, count_acts, may_be, weight_of,
+    best_conducts, broken_by, conducts_that_may_be, count_acts, does, may_be, weight_of,
 )
 from promisesheld.terms import NONE_THERE, NOT_ALLOWED, OUT_OF_REACH
 
@@ -51,3 +51,25 @@ def ck_nth(book, k):
     if k >= len(best):
         return [OUT_OF_REACH]
     return [count_acts(best[k]), best[k]]
+
+
+def ck_sure(book, a):
+    if not book.has_act(a):
+        return [NONE_THERE]
+    done = [does(conduct, a) for conduct in best_conducts(book)]
+    # The least is 1 just when all do it, the greatest just when some do.
+    return [min(done) + max(done)]
+
+
+def ck_who(book, i):
+    if not book.has_state(i):
+        return [NONE_THERE]
+    owed = [duty for duty in standing(book.duties) if duty.debtor == i]
+    broken = broken_by(best_conducts(book)[0], owed)
+    return [weight_of(broken), len(broken)]
+
+
+def ck_state(book):
+    back = len(book.pages_before)
+    again = len(book.pages_behind)
+    return [len(book.duties), book.acts, book.states, len(book.links), back, again]

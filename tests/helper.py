@@ -53,6 +53,50 @@ def nth(k):
     return [11, k]
 
 
+def sure(a):
+    return [12, a]
+
+
+def who(i):
+    return [13, i]
+
+
+def can(k):
+    return [14, k]
+
+
+def cost(k):
+    return [15, k]
+
+
+def clash(k, l):
+    return [16, k, l]
+
+
+def clashes():
+    return [17]
+
+
+def waive():
+    return [18]
+
+
+def relief(k):
+    return [19, k]
+
+
+def back():
+    return [20]
+
+
+def again():
+    return [21]
+
+
+def state():
+    return [22]
+
+
 def line(calls):
     """The calls one behind another, as answers() takes them."""
     return [number for call in calls for number in call]
@@ -85,20 +129,31 @@ def last(calls):
 
 
 def probe(acts=8):
-    """Questions that tell all that can be seen: duties, conducts, best ones, and how many links there are."""
+    """Questions that tell all that can be seen without a change, ck_state first."""
     conducts = range(2 ** acts + 1)
+    places = range(17)
     return (
-        [told(k) for k in range(17)]
+        [state()]
+        + [told(k) for k in places]
         + [may(s) for s in conducts]
         + [breaks(s) for s in conducts]
-        + [best(), most(), ways()]
-        + [nth(k) for k in range(17)]
+        + [best(), most(), ways(), clashes(), waive()]
+        + [nth(k) for k in places]
+        + [sure(a) for a in range(acts + 1)]
+        + [who(i) for i in range(7)]
+        + [call(k) for k in places for call in (can, cost, relief)]
+        + [clash(k, l) for l in places for k in range(l)]
     )
 
 
 def links_probe(acts=8):
     """Takes away each link that's there, so that their number and each one of them is told."""
     return [free(a, b) for a in range(acts) for b in range(acts)]
+
+
+def changes_probe():
+    """Goes on through all that can be done again, then back through all that can be taken back."""
+    return [again(), state()] * 21 + [back(), state()] * 21
 
 
 SIXTEEN = [duty(0, 1, k % 8, k % 2, k + 1, 0) for k in range(16)]

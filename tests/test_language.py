@@ -28,6 +28,8 @@ WORDS = (
     r"\b(type|typing|typing_extensions|enum|Enum|IntEnum|StrEnum|Flag|IntFlag|Generic|Protocol|ABC|ABCMeta|namedtuple"
     r"|NamedTuple|TypedDict|TYPE_CHECKING|abstractmethod)\b|dataclass|overload|contextmanager"
 )
+WALKED = ("zip", "enumerate", "reversed", "range", "items", "keys", "values")
+WALKERS = ("list", "tuple", "dict", "sorted", "sum", "any", "all", "enumerate", "zip", "min", "max")
 STATEMENTS = (
     ast.FunctionDef, ast.ClassDef, ast.Assign, ast.AugAssign, ast.If, ast.While, ast.For, ast.Return, ast.Break,
     ast.Continue, ast.Pass, ast.Raise, ast.Try, ast.Expr, ast.ImportFrom,
@@ -167,3 +169,30 @@ class Language(unittest.TestCase):
         for one in held | methods - {"__init__"}:
             for kind in (str, int, list, dict, set, bytes, tuple):
                 self.assertFalse(hasattr(kind, one), one)
+
+    def test_locals_are_not_called_like_classes_or_imports(self):
+        for name, tree in trees():
+            taken = {alias.name for node in tree.body if isinstance(node, ast.ImportFrom) for alias in node.names}
+            taken |= {node.name for node in tree.body if isinstance(node, ast.ClassDef)}
+            for node in ast.walk(tree):
+                if isinstance(node, ast.arg):
+                    self.assertNotIn(node.arg, taken, name)
+                elif isinstance(node, ast.Name) and isinstance(node.ctx, ast.Store):
+                    self.assertNotIn(node.id, taken, name)
+
+    def test_walked_at_once(self):
+        spots = [(name, node.iter.lineno, node.iter.col_offset) for name, node in nodes((ast.For, ast.comprehension))]
+        for name, node in nodes(ast.Call):
+            if isinstance(node.func, ast.Name) and node.func.id in WALKERS:
+                spots.extend((name, part.lineno, part.col_offset) for part in node.args[:1])
+        for name, node in nodes(ast.Call):
+            word = node.func.attr if isinstance(node.func, ast.Attribute) else node.func.id
+            if word in WALKED:
+                self.assertIn((name, node.lineno, node.col_offset), spots)
+
+    def test_what_is_not_needed_is_not_there(self):
+        # no errors are raised or taken and no set is made, so that L19 and L24 have nothing to ask
+        for name, node in nodes((ast.Try, ast.Raise, ast.Set, ast.JoinedStr, ast.Lambda)):
+            self.fail((name, node.lineno))
+        for name, node in nodes(ast.Name):
+            self.assertNotIn(node.id, ("set", "frozenset"), name)

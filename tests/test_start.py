@@ -3,8 +3,8 @@
 import unittest
 
 from tests.helper import (
-    SIXTEEN, TOP, TWELVE, ask, best, breaks, drop, duty, free, last, links_probe, may, most, needs, nth,
-    probe, start, told, ways,
+    SIXTEEN, TOP, TWELVE, again, ask, back, best, breaks, can, changes_probe, clash, clashes, cost, drop, duty, free,
+    last, links_probe, may, most, needs, nth, probe, relief, start, state, sure, told, waive, ways, who,
 )
 
 
@@ -38,25 +38,30 @@ class Start(unittest.TestCase):
         self.assertEqual(
             found, [[0], [-2], [-2], [-6], [1], [0, 0], [0, 0], [2, 3], [4, 4], [2, 3]]
         )
+        found = ask([start(2, 3), sure(1), who(2), can(0), cost(0), clash(0, 0), clashes(), waive(), relief(0),
+                     back(), again(), state()])
+        self.assertEqual(
+            found, [[0], [1], [0, 0], [-2], [-2], [-2], [0, 0, 0], [-33], [-2], [-2], [-2], [0, 2, 3, 0, 0, 0]]
+        )
 
     def test_start_makes_all_new(self):
-        old = [start(8, 6)] + SIXTEEN + TWELVE
-        new = [start(3, 2)] + probe(3) + links_probe(3) + [duty(0, 1, 0, 1), needs(0, 1)]
+        old = [start(8, 6)] + SIXTEEN + TWELVE + [back()] * 5
+        new = [start(3, 2)] + probe(3) + changes_probe() + links_probe(3) + [duty(0, 1, 0, 1), needs(0, 1)]
         self.assertEqual(ask(old + new)[len(old):], ask(new))
 
     def test_start_of_the_same_size_makes_all_new(self):
-        old = [start(8, 6)] + SIXTEEN + TWELVE
-        new = [start(8, 6)] + probe() + links_probe()
+        old = [start(8, 6)] + SIXTEEN + TWELVE + [back()] * 5
+        new = [start(8, 6)] + probe() + changes_probe() + links_probe()
         self.assertEqual(ask(old + new)[len(old):], ask(new))
 
     def test_refused_start_leaves_all(self):
-        old = [start(4, 3), duty(0, 1, 2, 1, 7, 3), duty(2, 1, 2, 0, 5, 4), needs(2, 3), needs(0, 1)]
-        rest = probe(4) + links_probe(4)
-        wanted = ask(old + rest)[len(old):]
-        for refused in (start(0, 3), start(9, 3), start(4, 1), start(4, 7), start(TOP, TOP)):
-            found = ask(old + [refused] + rest)
-            self.assertEqual(found[len(old)], [-22])
-            self.assertEqual(found[len(old) + 1:], wanted)
+        old = [start(4, 3), duty(0, 1, 2, 1, 7, 3), duty(2, 1, 2, 0, 5, 4), needs(2, 3), needs(0, 1), drop(0), back()]
+        for rest in (probe(4) + changes_probe(), links_probe(4)):
+            wanted = ask(old + rest)[len(old):]
+            for refused in (start(0, 3), start(9, 3), start(4, 1), start(4, 7), start(TOP, TOP)):
+                found = ask(old + [refused] + rest)
+                self.assertEqual(found[len(old)], [-22])
+                self.assertEqual(found[len(old) + 1:], wanted)
 
     def test_refused_before_the_first_start(self):
         self.assertEqual(ask([start(0, 2), start(1, 7), start(1, 2), ways()]), [[-22], [-22], [0], [2, 2]])
@@ -65,15 +70,16 @@ class Start(unittest.TestCase):
 class RefusedLeavesAll(unittest.TestCase):
 
     def check(self, old, refused, answer, acts):
-        rest = probe(acts) + links_probe(acts)
-        wanted = ask(old + rest)[len(old):]
-        found = ask(old + [refused] + rest)
-        self.assertEqual(found[len(old)], [answer], refused)
-        self.assertEqual(found[len(old) + 1:], wanted, refused)
+        for rest in (probe(acts) + changes_probe(), links_probe(acts)):
+            wanted = ask(old + rest)[len(old):]
+            found = ask(old + [refused] + rest)
+            self.assertEqual(found[len(old)], [answer], refused)
+            self.assertEqual(found[len(old) + 1:], wanted, refused)
 
     def test_each_refusal(self):
-        old = [start(4, 3), duty(0, 1, 2, 1, 7, 3), duty(0, 1, 2, 0, 5, 4), needs(2, 3), needs(0, 1)]
+        old = [start(4, 3), duty(0, 1, 2, 1, 7, 3), duty(0, 1, 2, 0, 5, 4), needs(2, 3), needs(0, 1), drop(0), back()]
         for refused, answer in (
+            (start(0, 2), -22), (start(9, 2), -22), (start(1, 1), -22), (start(1, 7), -22),
             (duty(3, 1, 0, 1), -2), (duty(0, 3, 0, 1), -2), (duty(0, 1, 4, 1), -2),
             (duty(1, 1, 0, 1), -22), (duty(0, 1, 0, 2), -22), (duty(0, 1, 0, 1, 0), -22),
             (duty(0, 1, 0, 1, 51), -22), (duty(0, 1, 0, 1, 1, 10001), -22),
@@ -81,6 +87,8 @@ class RefusedLeavesAll(unittest.TestCase):
             (needs(4, 0), -2), (needs(0, 4), -2), (needs(1, 1), -22), (needs(2, 3), -17),
             (free(4, 0), -2), (free(0, 4), -2), (free(3, 2), -6), (free(1, 1), -6),
             (may(16), -22), (breaks(16), -22), (breaks(4), -33), (nth(16), -33),
+            (sure(4), -2), (who(3), -2), (can(2), -2), (can(0), -6), (cost(2), -2), (cost(0), -6),
+            (clash(0, 2), -2), (clash(2, 0), -2), (clash(1, 1), -22), (relief(2), -2), (relief(0), -6),
         ):
             self.check(old, refused, answer, 4)
 
@@ -88,3 +96,13 @@ class RefusedLeavesAll(unittest.TestCase):
         old = [start(8, 6)] + SIXTEEN + TWELVE
         self.check(old, duty(4, 5, 0, 1), -28, 8)
         self.check(old, needs(4, 5), -28, 8)
+
+    def test_refused_since_there_is_none(self):
+        bare = [start(4, 3)]
+        self.check(bare, back(), -2, 4)
+        self.check(bare, again(), -2, 4)
+        self.check(bare, waive(), -33, 4)
+        changed = [start(4, 3), needs(0, 1), duty(0, 1, 2, 1)]
+        self.check(changed, again(), -2, 4)
+        self.check(changed + [back(), back()], back(), -2, 4)
+        self.check(changed + [back()], waive(), -33, 4)
